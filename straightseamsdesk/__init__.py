@@ -1,0 +1,1 @@
+"""patchhall, layer b: tops that are sewn by straight seams."""
