@@ -1,10 +1,10 @@
-"""Tops told by a block's text: which can be sewn by straight seams, and which lines part them.
+"""Tops told by a block's text: which can be sewn by straight seams, by which seams, and what locks.
 
 A patch is kept as its four spans, one a direction: the lowest and the highest strip it lies in.
 Strip k of a direction is what lies between its lines k and k + 1. As no line cuts a quarter, the
 spans say all that a line has to know of a patch.
 A piece is a list of patches' numbers: a line that parts cuts no patch, so all that taking apart
-comes to is whole patches.
+comes to is whole patches. Its numbers always rise.
 """
 
 MOST_BYTES = 1024
@@ -16,6 +16,8 @@ BACKSLASH = 92
 
 NO_SUCH_DIRECTION = -1
 TOO_LONG = -2
+CANNOT_BE_SEWN = -5
+CAN_BE_SEWN = -5
 AT_FAULT = -6
 
 UPPER = 0
@@ -29,6 +31,9 @@ FALLING = 2
 RISING = 3
 DIRECTIONS = 4
 AT_SHIFT = 64
+
+# In a plan's row this stands where a seam has its direction.
+PATCH = 4
 
 
 def split_at(numbers, mark):
@@ -213,21 +218,42 @@ def first_line(spans, piece):
     return None
 
 
-def is_sewn(spans, piece):
-    """Whether the piece is sewn by straight seams.
+def take_apart(spans, piece):
+    """Each part that taking the piece apart comes to, with the first line that parts it or None.
 
-    No line that parts is wrong (B1), so the first one is taken each time and no other is tried.
+    A part stands ahead of what's before its line, and that ahead of what's behind it. No line that
+    parts is wrong (B1), so the first one is taken each time and no other is tried.
     """
+    steps = []
     waiting = [piece]
     while len(waiting) > 0:
         part = waiting.pop()
-        if len(part) > 1:
-            found = first_line(spans, part)
-            if found is None:
-                return False
-            waiting.append(those_before(spans, part, found[0], found[1]))
+        found = first_line(spans, part)
+        steps.append((part, found))
+        if found is not None:
+            # What comes off the list first is what was put there last.
             waiting.append(those_behind(spans, part, found[0], found[1]))
-    return True
+            waiting.append(those_before(spans, part, found[0], found[1]))
+    return steps
+
+
+def stuck_parts(steps):
+    """The parts that lock, in the order they are come to: none just if the piece is sewn by straight seams."""
+    return [part for part, found in steps if found is None and len(part) > 1]
+
+
+def first_row(steps):
+    """The row of the first plan of what was taken apart and never got stuck.
+
+    Whichever line is first, there are plans of both its sides (B1): so the first plan has it.
+    """
+    row = []
+    for part, found in steps:
+        if found is None:
+            row.extend([PATCH, part[0]])
+        else:
+            row.extend([found[0], found[1] + AT_SHIFT])
+    return row
 
 
 def can(text):
@@ -236,7 +262,8 @@ def can(text):
     if refused != 0:
         return [refused]
     spans = read_spans(text)
-    return [0, 1 if is_sewn(spans, whole_top(spans)) else 0]
+    steps = take_apart(spans, whole_top(spans))
+    return [0, 1 if len(stuck_parts(steps)) == 0 else 0]
 
 
 def line(direction, at64, text):
@@ -248,3 +275,27 @@ def line(direction, at64, text):
         return [NO_SUCH_DIRECTION]
     spans = read_spans(text)
     return [0, 1 if parts(spans, whole_top(spans), direction, at64 - AT_SHIFT) else 0]
+
+
+def plan(text):
+    """0, and the row of the first plan; or a refusal."""
+    refused = refusal(text)
+    if refused != 0:
+        return [refused]
+    spans = read_spans(text)
+    steps = take_apart(spans, whole_top(spans))
+    if len(stuck_parts(steps)) > 0:
+        return [CANNOT_BE_SEWN]
+    return [0] + first_row(steps)
+
+
+def lock(text):
+    """0, and the patches that lock, rising; or a refusal."""
+    refused = refusal(text)
+    if refused != 0:
+        return [refused]
+    spans = read_spans(text)
+    stuck = stuck_parts(take_apart(spans, whole_top(spans)))
+    if len(stuck) == 0:
+        return [CAN_BE_SEWN]
+    return [0] + stuck[0]

@@ -13,6 +13,9 @@ SQUARE = r"[A-Za-z](?:[/\\][A-Za-z]|[A-Za-z]{3})?"
 
 WINDMILL = "a a b\nd e b\nd c c\n"
 
+EVERY_QUARTER = "abcd abcd abcd abcd abcd abcd\n" * 6
+EVERY_SQUARE = "a b a b a b\nb a b a b a\n" * 3
+
 
 def numbers(words):
     return [ord(sign) for sign in words]
@@ -43,6 +46,7 @@ class Top:
                 self.corners.extend(self.quarter_corners(2 * x, 2 * y))
         self.patches = self.number_patches()
         self.known = {}
+        self.known_plans = {}
 
     def quarter_letters(self, square):
         if len(square) == 1:
@@ -108,12 +112,49 @@ class Top:
             )
         return self.known[quarters]
 
+    def patch_numbers(self, quarters):
+        """The numbers of the patches that some quarters are of, rising."""
+        firsts = sorted(set(self.patches))
+        return sorted({firsts.index(self.patches[q]) for q in quarters})
+
+    def plans(self, quarters):
+        """All plans: a patch as 4 and its number; a seam as direction, at, the plan before it, that behind it.
+
+        By Python's own order of tuples they stand as plans do: the first of them is their min.
+        """
+        if quarters not in self.known_plans:
+            patches = self.patch_numbers(quarters)
+            found = [(4, patches[0])] if len(patches) == 1 else []
+            for direction, at, both in self.partings(quarters):
+                behind = self.plans(both[1])
+                found.extend((direction, at, one, other) for one in self.plans(both[0]) for other in behind)
+            self.known_plans[quarters] = found
+        return self.known_plans[quarters]
+
+    def all_plans(self):
+        return self.plans(self.quarters())
+
+    def locking(self, quarters):
+        """The quarters of what locks; None if nothing does."""
+        partings = self.partings(quarters)
+        if not partings:
+            return quarters if len(self.patch_numbers(quarters)) > 1 else None
+        before, behind = partings[0][2]
+        return self.locking(before) or self.locking(behind)
+
     def words(self, painted, letter):
         """The top's text with some quarters in another letter, each square as four letters."""
         signs = [letter if q in painted else own for q, own in enumerate(self.letters)]
         squares = ["".join(signs[k:k + 4]) for k in range(0, len(signs), 4)]
         rows = [" ".join(squares[k:k + self.wide]) for k in range(0, len(squares), self.wide)]
         return "\n".join(rows) + "\n"
+
+
+def row_of(told):
+    """The row of a plan that is told as Top.plans tells it."""
+    if told[0] == 4:
+        return [4, told[1]]
+    return [told[0], told[1] + 64] + row_of(told[2]) + row_of(told[3])
 
 
 def made_up_tops(count, seed):

@@ -1,27 +1,38 @@
 import contextlib
+import copy
 import inspect
 import io
 import sys
 import unittest
 
 import straightseamsdesk.tops
-from helper import WINDMILL, numbers
-from straightseamsdesk.tops import can, line
+from helper import EVERY_QUARTER, EVERY_SQUARE, WINDMILL, numbers
+from straightseamsdesk.tops import can, line, lock, plan
 
 MOST = 4294967295
+
+PARAMETERS = {
+    "can": ["text"],
+    "line": ["direction", "at64", "text"],
+    "plan": ["text"],
+    "lock": ["text"],
+}
 
 TEXTS = (
     numbers("a\n"),
     numbers("a b\nc d\n"),
+    numbers("a/b c\\d\ne efgh\n"),
     numbers(WINDMILL),
-    numbers("abcd abcd abcd abcd abcd abcd\n" * 6),
+    numbers("f a a b\nf d e b\nf d c c\n"),
+    numbers(EVERY_SQUARE),
+    numbers(EVERY_QUARTER),
     numbers("ab\n"),
     [],
     [97] * 1024,
     [97] * 1100,
 )
 
-ASKED = ((0, 65), (1, 65), (2, 63), (3, 66), (3, 0), (3, MOST), (4, 64), (MOST, MOST))
+LINES = ((0, 65), (1, 65), (2, 63), (3, 66), (3, 0), (3, MOST), (4, 64), (MOST, MOST))
 
 
 class Unchanging(list):
@@ -34,52 +45,61 @@ class Unchanging(list):
     __setitem__ = __delitem__ = __iadd__ = __imul__ = refuse
 
 
-def all_answers():
-    answers = [can(list(text)) for text in TEXTS]
+def all_asked(kind=list):
+    """Each call with what it is handed; the lists made anew, of that kind."""
+    asked = []
     for text in TEXTS:
-        answers.extend(line(direction, at64, list(text)) for direction, at64 in ASKED)
-    return answers
+        asked.extend((call, (kind(text),)) for call in (can, plan, lock))
+        asked.extend((line, (direction, at64, kind(text))) for direction, at64 in LINES)
+    return asked
+
+
+def all_answers():
+    return [call(*handed) for call, handed in all_asked()]
 
 
 class Interface(unittest.TestCase):
     def test_names_and_order_of_arguments(self):
-        self.assertEqual(list(inspect.signature(straightseamsdesk.tops.can).parameters), ["text"])
-        self.assertEqual(list(inspect.signature(straightseamsdesk.tops.line).parameters), ["direction", "at64", "text"])
+        for name, parameters in PARAMETERS.items():
+            call = getattr(straightseamsdesk.tops, name)
+            self.assertEqual(list(inspect.signature(call).parameters), parameters)
 
     def test_one_list_of_whole_numbers(self):
         for answer in all_answers():
             self.assertIs(type(answer), list)
             self.assertEqual({type(number) for number in answer}, {int})
-            self.assertEqual(len(answer), 2 if answer[0] == 0 else 1)
+
+    def test_a_refusal_stands_alone(self):
+        for answer in all_answers():
+            if answer[0] == 0:
+                self.assertGreater(len(answer), 1)
+                self.assertGreaterEqual(min(answer), 0)
+            else:
+                self.assertLess(answer[0], 0)
+                self.assertEqual(len(answer), 1)
 
     def test_what_is_handed_in_is_the_same_afterwards(self):
-        for text in TEXTS:
-            handed = list(text)
-            can(handed)
-            self.assertEqual(handed, text)
-            for direction, at64 in ASKED:
-                line(direction, at64, handed)
-                self.assertEqual(handed, text)
+        for call, handed in all_asked():
+            kept = copy.deepcopy(handed)
+            call(*handed)
+            self.assertEqual(handed, kept)
 
     def test_what_is_handed_in_is_not_changed_for_a_while(self):
-        for text in TEXTS:
-            can(Unchanging(text))
-            for direction, at64 in ASKED:
-                line(direction, at64, Unchanging(text))
+        for call, handed in all_asked(Unchanging):
+            call(*handed)
 
     def test_the_same_call_twice(self):
         self.assertEqual(all_answers(), all_answers())
-        for text in TEXTS:
-            self.assertEqual(can(text), can(text))
-            for direction, at64 in ASKED:
-                self.assertEqual(line(direction, at64, text), line(direction, at64, text))
+        for call, handed in all_asked():
+            self.assertEqual(call(*handed), call(*handed))
 
     def test_an_answer_that_is_changed_spoils_no_later_one(self):
-        for text in TEXTS:
-            first = can(text)
+        for call, handed in all_asked():
+            first = call(*handed)
             kept = list(first)
             first.append(7)
-            self.assertEqual(can(text), kept)
+            first[0] = 7
+            self.assertEqual(call(*handed), kept)
 
     def test_nothing_is_printed(self):
         out = io.StringIO()
@@ -88,14 +108,15 @@ class Interface(unittest.TestCase):
         self.assertEqual(out.getvalue(), "")
 
     def test_long_ways_are_gone_by_loops(self):
-        texts = (TEXTS[3], numbers("a a a a a a\n" * 6), [97] * 1024, [10] * 1024)
+        wanted = all_answers()
+        asked = all_asked()
         usual = sys.getrecursionlimit()
         sys.setrecursionlimit(len(inspect.stack()) + 25)
         try:
-            answers = [can(text) for text in texts]
+            answers = [call(*handed) for call, handed in asked]
         finally:
             sys.setrecursionlimit(usual)
-        self.assertEqual(answers, [[0, 1], [0, 1], [-6], [-6]])
+        self.assertEqual(answers, wanted)
 
 
 if __name__ == "__main__":

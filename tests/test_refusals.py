@@ -1,9 +1,15 @@
 import unittest
 
 from helper import WINDMILL, is_block, numbers
-from straightseamsdesk.tops import can, line
+from straightseamsdesk.tops import can, line, lock, plan
 
 MOST = 4294967295
+
+
+def answers(text):
+    """What each call answers to a text; line asked of a line that is good."""
+    return [can(text), line(0, 65, text), plan(text), lock(text)]
+
 
 AT_FAULT = (
     ("", "no bytes"),
@@ -61,8 +67,8 @@ class AtFault(unittest.TestCase):
     def test_texts_at_fault(self):
         for words, why in AT_FAULT:
             with self.subTest(words=words, why=why):
-                self.assertEqual(can(numbers(words)), [-6])
-                self.assertEqual(line(0, 65, numbers(words)), [-6])
+                for answer in answers(numbers(words)):
+                    self.assertEqual(answer, [-6])
 
     def test_each_byte_by_itself(self):
         letters = numbers("ABCDEFGHIJKLMNOPQRSTUVWXYZabcdefghijklmnopqrstuvwxyz")
@@ -98,14 +104,14 @@ class TooLong(unittest.TestCase):
 
     def test_1024_bytes_are_not_too_long(self):
         for text in self.texts_of(1024):
-            self.assertEqual(can(text), [-6])
-            self.assertEqual(line(0, 65, text), [-6])
+            for answer in answers(text):
+                self.assertEqual(answer, [-6])
 
     def test_more_bytes_are_too_long_though_at_fault_too(self):
         for length in (1025, 1026, 1100):
             for text in self.texts_of(length):
-                self.assertEqual(can(text), [-2])
-                self.assertEqual(line(0, 65, text), [-2])
+                for answer in answers(text):
+                    self.assertEqual(answer, [-2])
 
 
 class FirstRefusalCounts(unittest.TestCase):
