@@ -5,10 +5,12 @@ Strip k of a direction is what lies between its lines k and k + 1. As no line cu
 spans say all that a line has to know of a patch.
 A piece is a list of patches' numbers: a line that parts cuts no patch, so all that taking apart
 comes to is whole patches. Its numbers always rise.
+A parting is a line that parts a piece: direction, at, the piece before it, the piece behind it.
 """
 
 MOST_BYTES = 1024
 MOST_SQUARES = 6
+MOST_PATCHES_BY_DAYS = 10
 ROW_END = 10
 BLANK = 32
 SLASH = 47
@@ -19,6 +21,7 @@ TOO_LONG = -2
 CANNOT_BE_SEWN = -5
 CAN_BE_SEWN = -5
 AT_FAULT = -6
+TOO_MANY_PATCHES = -8
 
 UPPER = 0
 RIGHT = 1
@@ -191,69 +194,111 @@ def whole_top(spans):
     return list(range(len(spans)))
 
 
-def those_before(spans, piece, direction, at):
-    return [patch for patch in piece if spans[patch][direction][1] < at]
+def both_sides(spans, piece, direction, at):
+    """What's before the line and what's behind it; [] if it doesn't part the piece."""
+    before = [patch for patch in piece if spans[patch][direction][1] < at]
+    behind = [patch for patch in piece if spans[patch][direction][0] >= at]
+    # A patch that the line cuts is on neither side.
+    cut = len(before) + len(behind) < len(piece)
+    if cut or len(before) == 0 or len(behind) == 0:
+        return []
+    return [before, behind]
 
 
-def those_behind(spans, piece, direction, at):
-    return [patch for patch in piece if spans[patch][direction][0] >= at]
-
-
-def parts(spans, piece, direction, at):
-    """Whether the line parts the piece: a patch that it cuts is neither before nor behind it."""
-    before = len(those_before(spans, piece, direction, at))
-    behind = len(those_behind(spans, piece, direction, at))
-    return before > 0 and behind > 0 and before + behind == len(piece)
-
-
-def first_line(spans, piece):
-    """Direction and at of the first line that parts the piece, None if no line does."""
+def partings(spans, piece):
+    """All partings of the piece, in lines' order."""
+    found = []
     for direction in range(DIRECTIONS):
         lowest = min([spans[patch][direction][0] for patch in piece])
         highest = max([spans[patch][direction][1] for patch in piece])
         # Lines outside these have the whole piece on one side.
         for at in range(lowest + 1, highest + 1):
-            if parts(spans, piece, direction, at):
-                return (direction, at)
-    return None
+            sides = both_sides(spans, piece, direction, at)
+            if len(sides) > 0:
+                found.append((direction, at, sides[0], sides[1]))
+    return found
 
 
-def take_apart(spans, piece):
-    """Each part that taking the piece apart comes to, with the first line that parts it or None.
+def take_apart(spans):
+    """Each piece that taking the top apart comes to, with its first parting or None.
 
-    A part stands ahead of what's before its line, and that ahead of what's behind it. No line that
+    A piece stands ahead of what's before its line, and that ahead of what's behind it. No line that
     parts is wrong (B1), so the first one is taken each time and no other is tried.
     """
     steps = []
-    waiting = [piece]
+    waiting = [whole_top(spans)]
     while len(waiting) > 0:
-        part = waiting.pop()
-        found = first_line(spans, part)
-        steps.append((part, found))
-        if found is not None:
+        piece = waiting.pop()
+        found = partings(spans, piece)
+        steps.append((piece, found[0] if len(found) > 0 else None))
+        if len(found) > 0:
             # What comes off the list first is what was put there last.
-            waiting.append(those_behind(spans, part, found[0], found[1]))
-            waiting.append(those_before(spans, part, found[0], found[1]))
+            waiting.append(found[0][3])
+            waiting.append(found[0][2])
     return steps
 
 
-def stuck_parts(steps):
-    """The parts that lock, in the order they are come to: none just if the piece is sewn by straight seams."""
-    return [part for part, found in steps if found is None and len(part) > 1]
+def stuck_pieces(steps):
+    """The pieces that lock, in the order they are come to: none just if the top can be sewn."""
+    return [piece for piece, parting in steps if parting is None and len(piece) > 1]
 
 
-def first_row(steps):
-    """The row of the first plan of what was taken apart and never got stuck.
-
-    Whichever line is first, there are plans of both its sides (B1): so the first plan has it.
-    """
+def row_of(steps):
+    """The row of the plan by which a top was taken apart that never got stuck."""
     row = []
-    for part, found in steps:
-        if found is None:
-            row.extend([PATCH, part[0]])
+    for piece, parting in steps:
+        if parting is None:
+            row.extend([PATCH, piece[0]])
         else:
-            row.extend([found[0], found[1] + AT_SHIFT])
+            row.extend([parting[0], parting[1] + AT_SHIFT])
     return row
+
+
+def seams_and_days(spans, row):
+    """How many seams and how many days the plan has that the row tells; [] if it's no plan of the top."""
+    seams = 0
+    longest = 0
+    place = 0
+    # Pieces with how many seams lie around each: a plan's days are the most that lie around a patch.
+    waiting = [(whole_top(spans), 0)]
+    while len(waiting) > 0 and place + 1 < len(row):
+        told = waiting.pop()
+        if row[place] == PATCH and told[0] == [row[place + 1]]:
+            longest = max(longest, told[1])
+        elif row[place] <= RISING:
+            sides = both_sides(spans, told[0], row[place], row[place + 1] - AT_SHIFT)
+            if len(sides) == 0:
+                return []
+            seams += 1
+            waiting.append((sides[1], told[1] + 1))
+            waiting.append((sides[0], told[1] + 1))
+        else:
+            return []
+        place += 2
+    if len(waiting) > 0 or place < len(row):
+        return []
+    return [seams, longest]
+
+
+def fewest_days(spans, piece, known):
+    """The fewest days of all plans of a piece that can be sewn.
+
+    Many ways lead to one piece: known has the days of those that were come to, and is filled.
+    Calls stand within one another no deeper than a few for each of at most 10 patches.
+    """
+    if len(piece) == 1:
+        return 0
+    key = tuple(piece)
+    if key not in known:
+        known[key] = min([days_by(spans, parting, known) for parting in partings(spans, piece)])
+    return known[key]
+
+
+def days_by(spans, parting, known):
+    """The fewest days of the plans that begin with a parting."""
+    before = fewest_days(spans, parting[2], known)
+    behind = fewest_days(spans, parting[3], known)
+    return 1 + max(before, behind)
 
 
 def can(text):
@@ -261,9 +306,8 @@ def can(text):
     refused = refusal(text)
     if refused != 0:
         return [refused]
-    spans = read_spans(text)
-    steps = take_apart(spans, whole_top(spans))
-    return [0, 1 if len(stuck_parts(steps)) == 0 else 0]
+    stuck = stuck_pieces(take_apart(read_spans(text)))
+    return [0, 1 if len(stuck) == 0 else 0]
 
 
 def line(direction, at64, text):
@@ -274,7 +318,8 @@ def line(direction, at64, text):
     if direction > RISING:
         return [NO_SUCH_DIRECTION]
     spans = read_spans(text)
-    return [0, 1 if parts(spans, whole_top(spans), direction, at64 - AT_SHIFT) else 0]
+    sides = both_sides(spans, whole_top(spans), direction, at64 - AT_SHIFT)
+    return [0, 1 if len(sides) > 0 else 0]
 
 
 def plan(text):
@@ -282,11 +327,11 @@ def plan(text):
     refused = refusal(text)
     if refused != 0:
         return [refused]
-    spans = read_spans(text)
-    steps = take_apart(spans, whole_top(spans))
-    if len(stuck_parts(steps)) > 0:
+    steps = take_apart(read_spans(text))
+    if len(stuck_pieces(steps)) > 0:
         return [CANNOT_BE_SEWN]
-    return [0] + first_row(steps)
+    # Whichever line is first, there are plans of both its sides (B1): so the first plan has it.
+    return [0] + row_of(steps)
 
 
 def lock(text):
@@ -294,8 +339,38 @@ def lock(text):
     refused = refusal(text)
     if refused != 0:
         return [refused]
-    spans = read_spans(text)
-    stuck = stuck_parts(take_apart(spans, whole_top(spans)))
+    stuck = stuck_pieces(take_apart(read_spans(text)))
     if len(stuck) == 0:
         return [CAN_BE_SEWN]
     return [0] + stuck[0]
+
+
+def check(text, row):
+    """0, and 1, how many seams and how many days if the row is a plan of the top, else 0; or a refusal."""
+    refused = refusal(text)
+    if refused != 0:
+        return [refused]
+    told = seams_and_days(read_spans(text), row)
+    return [0, 1] + told if len(told) > 0 else [0, 0]
+
+
+def refusal_by_days(text):
+    """What is refused where the fewest days are asked for, or 0."""
+    refused = refusal(text)
+    if refused != 0:
+        return refused
+    spans = read_spans(text)
+    if len(spans) > MOST_PATCHES_BY_DAYS:
+        return TOO_MANY_PATCHES
+    if len(stuck_pieces(take_apart(spans))) > 0:
+        return CANNOT_BE_SEWN
+    return 0
+
+
+def days(text):
+    """0, and the fewest days of all plans; or a refusal."""
+    refused = refusal_by_days(text)
+    if refused != 0:
+        return [refused]
+    spans = read_spans(text)
+    return [0, fewest_days(spans, whole_top(spans), {})]

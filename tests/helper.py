@@ -157,6 +157,19 @@ def row_of(told):
     return [told[0], told[1] + 64] + row_of(told[2]) + row_of(told[3])
 
 
+def days_of(told):
+    """The days of a plan that is told as Top.plans tells it."""
+    if told[0] == 4:
+        return 0
+    return 1 + max(days_of(told[2]), days_of(told[3]))
+
+
+def small_tops(count, seed):
+    """Each of some made up tops that has at most 7 patches, so that all its plans can be gone through."""
+    tops = [(words, Top(words)) for words in made_up_tops(count, seed)]
+    return [(words, top) for words, top in tops if len(set(top.patches)) <= 7]
+
+
 def made_up_tops(count, seed):
     """The texts of some tops of up to 3 by 3 squares, in all four forms; the same ones every time."""
     state = seed

@@ -7,7 +7,7 @@ import unittest
 
 import straightseamsdesk.tops
 from helper import EVERY_QUARTER, EVERY_SQUARE, WINDMILL, numbers
-from straightseamsdesk.tops import can, line, lock, plan
+from straightseamsdesk.tops import can, check, days, line, lock, plan
 
 MOST = 4294967295
 
@@ -16,6 +16,8 @@ PARAMETERS = {
     "line": ["direction", "at64", "text"],
     "plan": ["text"],
     "lock": ["text"],
+    "check": ["text", "row"],
+    "days": ["text"],
 }
 
 TEXTS = (
@@ -24,12 +26,24 @@ TEXTS = (
     numbers("a/b c\\d\ne efgh\n"),
     numbers(WINDMILL),
     numbers("f a a b\nf d e b\nf d c c\n"),
+    numbers("a b c d e\nf g h i j\n"),
     numbers(EVERY_SQUARE),
     numbers(EVERY_QUARTER),
     numbers("ab\n"),
     [],
     [97] * 1024,
     [97] * 1100,
+)
+
+ROWS = (
+    [],
+    [4],
+    [4, 0],
+    [0, 65, 1, 65, 4, 0, 4, 2, 1, 65, 4, 1, 4, 3],
+    plan(numbers(EVERY_QUARTER))[1:],
+    [0, 65] * 350,
+    [4, 0] * 350,
+    [MOST] * 700,
 )
 
 LINES = ((0, 65), (1, 65), (2, 63), (3, 66), (3, 0), (3, MOST), (4, 64), (MOST, MOST))
@@ -49,8 +63,9 @@ def all_asked(kind=list):
     """Each call with what it is handed; the lists made anew, of that kind."""
     asked = []
     for text in TEXTS:
-        asked.extend((call, (kind(text),)) for call in (can, plan, lock))
+        asked.extend((call, (kind(text),)) for call in (can, plan, lock, days))
         asked.extend((line, (direction, at64, kind(text))) for direction, at64 in LINES)
+        asked.extend((check, (kind(text), kind(row))) for row in ROWS)
     return asked
 
 
@@ -108,15 +123,19 @@ class Interface(unittest.TestCase):
         self.assertEqual(out.getvalue(), "")
 
     def test_long_ways_are_gone_by_loops(self):
-        wanted = all_answers()
-        asked = all_asked()
+        for call, handed in all_asked():
+            wanted = call(*handed)
+            # What days goes through is never nested deeper than 10 patches are.
+            deepest = 60 if call is days else 25
+            self.assertEqual(self.answer_within(deepest, call, handed), wanted)
+
+    def answer_within(self, deepest, call, handed):
         usual = sys.getrecursionlimit()
-        sys.setrecursionlimit(len(inspect.stack()) + 25)
+        sys.setrecursionlimit(len(inspect.stack()) + deepest)
         try:
-            answers = [call(*handed) for call, handed in asked]
+            return call(*handed)
         finally:
             sys.setrecursionlimit(usual)
-        self.assertEqual(answers, wanted)
 
 
 if __name__ == "__main__":

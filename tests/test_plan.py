@@ -2,7 +2,7 @@
 
 import unittest
 
-from helper import EVERY_QUARTER, EVERY_SQUARE, WINDMILL, Top, made_up_tops, numbers, row_of
+from helper import EVERY_QUARTER, EVERY_SQUARE, WINDMILL, Top, made_up_tops, numbers, row_of, small_tops
 from straightseamsdesk.tops import can, plan
 
 FIRST_PLANS = (
@@ -113,10 +113,7 @@ class SeamFewerThanPatches(unittest.TestCase):
 class PlanReckonedAnew(unittest.TestCase):
     def test_b2_the_first_of_all_plans(self):
         several = 0
-        for words in made_up_tops(400, 7):
-            top = Top(words)
-            if len(set(top.patches)) > 7:
-                continue
+        for words, top in small_tops(400, 7):
             plans = top.all_plans()
             with self.subTest(words=words):
                 self.assertEqual(plan(numbers(words)), [0] + row_of(min(plans)) if plans else [-5])
