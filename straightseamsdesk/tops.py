@@ -1,4 +1,4 @@
-"""Tops told by a block's text: which can be sewn by straight seams, by which seams, and what locks.
+"""Tops told by a block's text: which can be sewn by straight seams, by which, in how many days, and what locks.
 
 A patch is kept as its four spans, one a direction: the lowest and the highest strip it lies in.
 Strip k of a direction is what lies between its lines k and k + 1. As no line cuts a quarter, the
@@ -219,22 +219,28 @@ def partings(spans, piece):
     return found
 
 
-def take_apart(spans):
+def take_apart(spans, most):
     """Each piece that taking the top apart comes to, with its first parting or None.
 
-    A piece stands ahead of what's before its line, and that ahead of what's behind it. No line that
-    parts is wrong (B1), so the first one is taken each time and no other is tried.
+    A piece stands ahead of what's before its line, and that ahead of what's behind it.
+    most: None, or the most days: then what would take more is left out. That holds for the whole top, so
+    that a side with days to spare has its first plan within them, not the first of its own fewest days.
+    No line that parts is wrong (B1), so no line is taken back.
     """
     steps = []
-    waiting = [whole_top(spans)]
+    known = {}
+    # Pieces with how many seams lie around each: those are days too.
+    waiting = [(whole_top(spans), 0)]
     while len(waiting) > 0:
-        piece = waiting.pop()
-        found = partings(spans, piece)
-        steps.append((piece, found[0] if len(found) > 0 else None))
+        told = waiting.pop()
+        found = partings(spans, told[0])
+        if most is not None:
+            found = [parting for parting in found if told[1] + days_by(spans, parting, known) <= most]
+        steps.append((told[0], found[0] if len(found) > 0 else None))
         if len(found) > 0:
             # What comes off the list first is what was put there last.
-            waiting.append(found[0][3])
-            waiting.append(found[0][2])
+            waiting.append((found[0][3], told[1] + 1))
+            waiting.append((found[0][2], told[1] + 1))
     return steps
 
 
@@ -306,7 +312,7 @@ def can(text):
     refused = refusal(text)
     if refused != 0:
         return [refused]
-    stuck = stuck_pieces(take_apart(read_spans(text)))
+    stuck = stuck_pieces(take_apart(read_spans(text), None))
     return [0, 1 if len(stuck) == 0 else 0]
 
 
@@ -327,7 +333,7 @@ def plan(text):
     refused = refusal(text)
     if refused != 0:
         return [refused]
-    steps = take_apart(read_spans(text))
+    steps = take_apart(read_spans(text), None)
     if len(stuck_pieces(steps)) > 0:
         return [CANNOT_BE_SEWN]
     # Whichever line is first, there are plans of both its sides (B1): so the first plan has it.
@@ -339,7 +345,7 @@ def lock(text):
     refused = refusal(text)
     if refused != 0:
         return [refused]
-    stuck = stuck_pieces(take_apart(read_spans(text)))
+    stuck = stuck_pieces(take_apart(read_spans(text), None))
     if len(stuck) == 0:
         return [CAN_BE_SEWN]
     return [0] + stuck[0]
@@ -362,7 +368,7 @@ def refusal_by_days(text):
     spans = read_spans(text)
     if len(spans) > MOST_PATCHES_BY_DAYS:
         return TOO_MANY_PATCHES
-    if len(stuck_pieces(take_apart(spans))) > 0:
+    if len(stuck_pieces(take_apart(spans, None))) > 0:
         return CANNOT_BE_SEWN
     return 0
 
@@ -374,3 +380,13 @@ def days(text):
         return [refused]
     spans = read_spans(text)
     return [0, fewest_days(spans, whole_top(spans), {})]
+
+
+def dayplan(text):
+    """0, and the row of the first of the plans of the fewest days; or a refusal."""
+    refused = refusal_by_days(text)
+    if refused != 0:
+        return [refused]
+    spans = read_spans(text)
+    fewest = fewest_days(spans, whole_top(spans), {})
+    return [0] + row_of(take_apart(spans, fewest))

@@ -165,20 +165,27 @@ def days_of(told):
 
 
 def small_tops(count, seed):
-    """Each of some made up tops that has at most 7 patches, so that all its plans can be gone through."""
+    """Each of some made up tops that has at most 10 patches, so that all its plans can be gone through."""
     tops = [(words, Top(words)) for words in made_up_tops(count, seed)]
-    return [(words, top) for words, top in tops if len(set(top.patches)) <= 7]
+    return [(words, top) for words, top in tops if len(set(top.patches)) <= 10]
 
 
-def made_up_tops(count, seed):
-    """The texts of some tops of up to 3 by 3 squares, in all four forms; the same ones every time."""
+def drawer(seed):
+    """A function that draws a number below its limit; the same ones every time."""
     state = seed
-    texts = []
 
     def draw(limit):
         nonlocal state
         state = (state * 1103515245 + 12345) % 2 ** 31
         return (state >> 12) % limit
+
+    return draw
+
+
+def made_up_tops(count, seed):
+    """The texts of some tops of up to 3 by 3 squares, in all four forms; the same ones every time."""
+    draw = drawer(seed)
+    texts = []
 
     def letter(letters):
         return "abAB"[draw(letters)]
@@ -198,3 +205,28 @@ def made_up_tops(count, seed):
         rows = [" ".join(square(letters) for _ in range(wide)) for _ in range(high)]
         texts.append("\n".join(rows) + "\n")
     return texts
+
+
+def sewn_tops(count, seed):
+    """Some tops of up to 5 by 4 squares and 10 patches that can be sewn, as they are made by cutting along lines."""
+    draw = drawer(seed)
+    tops = []
+    while len(tops) < count:
+        wide = 1 + draw(5)
+        high = 1 + draw(4)
+        blank = Top("\n".join([" ".join("a" * wide)] * high) + "\n")
+        pieces = [blank.quarters()]
+        wanted = 3 + draw(8)
+        for _ in range(200):
+            piece = pieces[draw(len(pieces))]
+            direction, at = draw(4), FIRST_AT + draw(LAST_AT - FIRST_AT + 1)
+            before = frozenset(q for q in piece if blank.is_before(q, direction, at))
+            if len(pieces) < wanted and before and before != piece:
+                pieces.remove(piece)
+                pieces.extend([before, piece - before])
+        for number, piece in enumerate(pieces):
+            for quarter in piece:
+                blank.letters[quarter] = "abcdefghij"[number]
+        words = blank.words((), "")
+        tops.append((words, Top(words)))
+    return tops

@@ -2,7 +2,7 @@
 
 import unittest
 
-from helper import EVERY_QUARTER, EVERY_SQUARE, WINDMILL, Top, days_of, made_up_tops, numbers, small_tops
+from helper import EVERY_QUARTER, EVERY_SQUARE, WINDMILL, Top, days_of, made_up_tops, numbers, sewn_tops, small_tops
 from straightseamsdesk.tops import check, days, plan
 
 FEWEST = (
@@ -94,7 +94,7 @@ class DaysRefused(unittest.TestCase):
 class DaysReckonedAnew(unittest.TestCase):
     def test_b4_the_fewest_of_all_plans(self):
         spared = 0
-        for words, top in small_tops(500, 15):
+        for words, top in small_tops(400, 15) + sewn_tops(60, 18):
             plans = top.all_plans()
             with self.subTest(words=words):
                 fewest = min([days_of(told) for told in plans], default=None)

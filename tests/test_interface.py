@@ -7,7 +7,7 @@ import unittest
 
 import straightseamsdesk.tops
 from helper import EVERY_QUARTER, EVERY_SQUARE, WINDMILL, numbers
-from straightseamsdesk.tops import can, check, days, line, lock, plan
+from straightseamsdesk.tops import can, check, dayplan, days, line, lock, plan
 
 MOST = 4294967295
 
@@ -18,6 +18,7 @@ PARAMETERS = {
     "lock": ["text"],
     "check": ["text", "row"],
     "days": ["text"],
+    "dayplan": ["text"],
 }
 
 TEXTS = (
@@ -63,7 +64,7 @@ def all_asked(kind=list):
     """Each call with what it is handed; the lists made anew, of that kind."""
     asked = []
     for text in TEXTS:
-        asked.extend((call, (kind(text),)) for call in (can, plan, lock, days))
+        asked.extend((call, (kind(text),)) for call in (can, plan, lock, days, dayplan))
         asked.extend((line, (direction, at64, kind(text))) for direction, at64 in LINES)
         asked.extend((check, (kind(text), kind(row))) for row in ROWS)
     return asked
@@ -125,8 +126,8 @@ class Interface(unittest.TestCase):
     def test_long_ways_are_gone_by_loops(self):
         for call, handed in all_asked():
             wanted = call(*handed)
-            # What days goes through is never nested deeper than 10 patches are.
-            deepest = 60 if call is days else 25
+            # What these two go through is never nested deeper than 10 patches are.
+            deepest = 60 if call in (days, dayplan) else 25
             self.assertEqual(self.answer_within(deepest, call, handed), wanted)
 
     def answer_within(self, deepest, call, handed):

@@ -1,7 +1,7 @@
 import unittest
 
 from helper import WINDMILL, is_block, numbers
-from straightseamsdesk.tops import can, check, days, line, lock, plan
+from straightseamsdesk.tops import can, check, dayplan, days, line, lock, plan
 
 MOST = 4294967295
 
@@ -9,7 +9,7 @@ MOST = 4294967295
 def answers(text):
     """What each call answers to a text; a line and rows that are good, and rows that are not."""
     checked = [check(text, row) for row in ([], [4, 0], [0, 65, 4, 0, 4, 1], [MOST] * 700)]
-    return [can(text), line(0, 65, text), plan(text), lock(text), days(text)] + checked
+    return [can(text), line(0, 65, text), plan(text), lock(text), days(text), dayplan(text)] + checked
 
 
 AT_FAULT = (
